@@ -448,7 +448,7 @@ func TestReadEntryRefusesNumbersThatAreTooGreat(t *testing.T) {
 
 // plainReadNumber reads a number as plainNumber writes it, up to limit.
 func plainReadNumber(text string, limit int) (int, string, bool) {
-	for length := 1; length <= 3 && length <= len(text); length++ {
+	for length := 1; length <= 5 && length <= len(text); length++ {
 		n := 0
 		for at := length - 1; at >= 0; at-- {
 			n = n*128 + int(text[at])%128

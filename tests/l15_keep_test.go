@@ -204,11 +204,10 @@ func plainCommandText(x impl.Command) string {
 	return bytesOf([]int{x.Op}) + plainNumber(x.Token) + plainNumber(x.Seq) + plainShort(x.Key) + plainShort(x.Val) + plainNumber(x.Ver)
 }
 
-// plainFold leaves it to ReadCommand what of the entries is a command.
 func plainFold(k impl.Keep, list []impl.Entry, index int) (impl.Keep, []string) {
 	replies := []string{}
 	for _, e := range list {
-		x, isCommand := impl.ReadCommand(e.Data)
+		x, isCommand := plainReadCommand(e.Data)
 		then, reply, ok := plainPerform(k, index, x)
 		if e.Kind == 3 && isCommand && ok {
 			k = then
@@ -495,26 +494,32 @@ func TestCommandOkOfRightAndWrongCommands(t *testing.T) {
 	}
 }
 
-func TestCommandOkOfEachMix(t *testing.T) {
-	right := 0
+// eachMix has each edge of one field beside each edge of the others.
+func eachMix(hand func(x impl.Command)) {
 	for op := -1; op <= 7; op++ {
 		for _, token := range []int{-1, 0, 1, 1000000, 1000001} {
 			for _, seq := range []int{-1, 0, 1, 1000000, 1000001} {
 				for _, key := range []string{"", "k", "12345678", "123456789"} {
 					for _, val := range []string{"", "v", mixedBytes(20), mixedBytes(21)} {
 						for _, ver := range []int{-1, 0, 1, 1000000000, 1000000001} {
-							x := impl.Command{Op: op, Token: token, Seq: seq, Key: key, Val: val, Ver: ver}
-							want := plainCommandOk(x)
-							wantCommandOk(t, x, want)
-							if want {
-								right++
-							}
+							hand(impl.Command{Op: op, Token: token, Seq: seq, Key: key, Val: val, Ver: ver})
 						}
 					}
 				}
 			}
 		}
 	}
+}
+
+func TestCommandOkOfEachMix(t *testing.T) {
+	right := 0
+	eachMix(func(x impl.Command) {
+		want := plainCommandOk(x)
+		wantCommandOk(t, x, want)
+		if want {
+			right++
+		}
+	})
 	// Of Tokens and Seqs three each are right, of Keys two, of Vals three.
 	if right != 1+9*2*(3+1+1+3*2) {
 		t.Errorf("%d commands are right", right)
